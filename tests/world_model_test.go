@@ -347,12 +347,18 @@ func someAsk(from *rand.Rand, w impl.World) impl.Write {
 	return x
 }
 
-// someStep is a step that from picks: what it is, what the program answers to it, and what it should. The ids and places may be just out of bounds.
-func someStep(from *rand.Rand, w impl.World) (what string, got, want impl.WorldResult) {
+// someId is most often a node's, and may be just out of bounds.
+func someId(from *rand.Rand, w impl.World) int64 {
 	id := 1 + from.Int63n(int64(len(w.Nodes)))
 	if from.Intn(40) == 0 {
 		id = from.Int63n(2) * (int64(len(w.Nodes)) + 1)
 	}
+	return id
+}
+
+// someStep is a step that from picks: what it is, what the program answers to it, and what it should. The ids and places may be just out of bounds.
+func someStep(from *rand.Rand, w impl.World) (what string, got, want impl.WorldResult) {
+	id := someId(from, w)
 	switch pick := from.Intn(24); {
 	case pick < 4:
 		x := someAsk(from, w)

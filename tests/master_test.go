@@ -376,6 +376,11 @@ func wantMute(t *testing.T, w impl.World, id int64) {
 	wantWorldCode(t, "SendWorld by one that was removed", impl.SendWorld(w, id, 1), impl.ErrDown)
 	wantWorldCode(t, "AckWorld by one that was removed", impl.AckWorld(w, id), impl.ErrDown)
 	wantWorldCode(t, "BeatWorld of one that was removed", impl.BeatWorld(w, id), impl.ErrDown)
+	wantAnswerCode(t, "ReadWorld of one that was removed", impl.ReadWorld(w, id, 1), impl.ErrDown)
+	wantAnswerCode(t, "FindWorld of one that was removed", impl.FindWorld(w, id, []int64{1, 2, 3}, 1), impl.ErrDown)
+	if code := impl.MayAnswer(w, id); code != impl.ErrDown {
+		t.Fatalf("MayAnswer of one that was removed: %d", code)
+	}
 	for at, m := range w.Msgs {
 		if m.To == id {
 			wantStill(t, "HearWorld by one that was removed", impl.HearWorld(w, int64(at)), eventOf(w))
